@@ -1,0 +1,1 @@
+"""Letters taken by pattern out of a process's box."""
