@@ -1,26 +1,34 @@
 """One process with its box, and the calls on it."""
 
 from pickedletters.taking import clauses_told, first_to_take
-from pickedletters.terms import HIGHEST, NAME, asks_for, has_token_from, is_term
+from pickedletters.terms import HIGHEST, NAME, TOKEN, asks_for, has_token_from, is_term
 
 BEGIN = 0
 SEND = 1
 RECEIVE = 2
 TICKS = 3
 STOP = 4
+MAKE_TOKEN = 5
+TELL_NAMES = 6
+FORGET = 7
+TELL_BOX = 8
+TELL_COUNTS = 9
 
 # How many whole numbers, and how many rows, stand behind each call's number.
-NUMBERS_BEHIND = (0, 0, 2, 1, 0)
-ROWS_BEHIND = (0, 1, 1, 0, 0)
+NUMBERS_BEHIND = (0, 0, 2, 1, 0, 0, 0, 1, 0, 0)
+ROWS_BEHIND = (0, 1, 1, 0, 0, 0, 0, 0, 0, 0)
 
 DONE = 0
 TAKEN = 1
 TIME_OVER = 2
 
+# Stands for the value of a name that has none: no term begins with it.
+NO_VALUE = 9
+
 WRONGLY_TOLD = -1
 WRONG_END = -2
 TOKEN_NOT_MADE = -3
-BOX_FULL = -6
+TOO_MANY = -6
 WRONG_TIME = -8
 
 MOST_LETTERS = 60
@@ -36,6 +44,8 @@ class Process:
         self.made = 0
         # How many letters stand ahead of the mark.
         self.mark = 0
+        self.sent = 0
+        self.taken = 0
         self.looked = 0
         # None while it doesn't wait.
         self.clauses = None
@@ -48,8 +58,9 @@ class Process:
         if has_token_from(term, self.made):
             return [TOKEN_NOT_MADE]
         if len(self.box) >= MOST_LETTERS:
-            return [BOX_FULL]
+            return [TOO_MANY]
         self.box.append(term)
+        self.sent += 1
         if self.clauses is None:
             return [DONE]
         taken = self.take_first(self.clauses, len(self.box) - 1)
@@ -92,6 +103,39 @@ class Process:
         self.wait_no_more()
         return [DONE]
 
+    def make_token(self):
+        if self.clauses is not None:
+            return [WRONG_TIME]
+        if self.made > HIGHEST[TOKEN]:
+            return [TOO_MANY]
+        self.made += 1
+        self.mark = len(self.box)
+        return [self.made - 1]
+
+    def names_told(self):
+        told = []
+        for value in self.names:
+            told.extend([NO_VALUE] if value is None else value)
+        return told
+
+    def forget(self, name):
+        if self.clauses is not None:
+            return [WRONG_TIME]
+        if name > HIGHEST[NAME]:
+            return [WRONGLY_TOLD]
+        had_value = self.names[name] is not None
+        self.names[name] = None
+        return [1 if had_value else 0]
+
+    def box_told(self):
+        told = [len(self.box)]
+        for letter in self.box:
+            told.extend(letter)
+        return told
+
+    def counts_told(self):
+        return [self.sent, self.taken, self.looked, 0 if self.clauses is None else 1]
+
     def wait_no_more(self):
         self.clauses = None
         self.ticks_left = None
@@ -118,6 +162,7 @@ class Process:
 
     def take_out(self, place):
         self.box.pop(place)
+        self.taken += 1
         if place < self.mark:
             self.mark -= 1
 
@@ -140,6 +185,16 @@ def answer(process, call):
         return process.pass_ticks(call[1])
     if number == STOP:
         return process.stop()
+    if number == MAKE_TOKEN:
+        return process.make_token()
+    if number == TELL_NAMES:
+        return process.names_told()
+    if number == FORGET:
+        return process.forget(call[1])
+    if number == TELL_BOX:
+        return process.box_told()
+    if number == TELL_COUNTS:
+        return process.counts_told()
     return [DONE]
 
 

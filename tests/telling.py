@@ -61,6 +61,42 @@ def stop():
     return [4]
 
 
+def make():
+    """The call that makes a token; token(n) is the term."""
+    return [5]
+
+
+def names():
+    return [6]
+
+
+def forget(n):
+    return [7, n]
+
+
+def box():
+    return [8]
+
+
+def counts():
+    return [9]
+
+
+# Calls that change nothing and together tell nearly all.
+SEEN = [names(), box(), counts()]
+
+
+def values(**told):
+    """What names answers if just these have a value: values(n0=number(1))."""
+    assert set(told) <= {f"n{n}" for n in range(10)}, told
+    return sum([told.get(f"n{n}", [9]) for n in range(10)], [])
+
+
+def letters(*terms):
+    """What box answers if just these are there."""
+    return [len(terms)] + sum(terms, [])
+
+
 def split(given):
     """The answers one by one, out of the list in which each stands behind its length."""
     parts = []
@@ -73,10 +109,15 @@ def split(given):
     return parts
 
 
+def ask_long(*calls):
+    """As ask, but with more calls than are handed in: what can't come up within 60 is seen only so."""
+    return split(answers(sum(calls, [])))
+
+
 def ask(*calls):
     """Each call's answer; a refusal or 0 or 2 as a list of one number."""
     assert 1 <= len(calls) <= 60, "no more calls than a list may have"
-    return split(answers(sum(calls, [])))
+    return ask_long(*calls)
 
 
 def last(*calls):

@@ -2,7 +2,7 @@
 
 import unittest
 
-from telling import (ANYTHING, TOP, ask, begin, clause, last, name, nested, number, receive, row, send, stop, take,
+from telling import (ANYTHING, TOP, ask, ask_long, begin, clause, last, name, nested, number, receive, row, send, stop, take,
                      ticks, token, word)
 
 LONGEST = row(*[row(number(1), number(2), number(3)) for i in range(7)], number(4))
@@ -114,9 +114,7 @@ class AFullBox(unittest.TestCase):
 
     def ask_on(self, *calls):
         """A list of more calls than is handed in: only so the box is full and a call follows."""
-        from pickedletters.process import answers
-        from telling import split
-        return split(answers(sum(self.FILL + list(calls), [])))[60:]
+        return ask_long(*self.FILL, *calls)[60:]
 
     def test_60_calls_put_60_letters_into_the_box(self):
         self.assertEqual(ask(*self.FILL), [[0]] * 60)
